@@ -41,7 +41,7 @@ console: map function-field panic recover assertion embedding promoted range-fun
 `
 
 // landed tells up to which layer the program is built.
-const landed = 30
+const landed = 31
 
 func TestWays(t *testing.T) {
 	for i, line := range strings.Split(strings.TrimSpace(asked), "\n") {
