@@ -57,7 +57,7 @@ func (u *under) grow(c api.Call) {
 	u.come(to.Dir, to.Name, n)
 }
 
-// write down the least free record, and tell it.
+// fresh writes the least free record down, and tells it.
 func (u *under) fresh(name string, n int) int {
 	free, e := space.Record(u.Image)
 	refuse(e, e != api.OK)

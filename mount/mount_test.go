@@ -346,3 +346,57 @@ func TestAnyWords(t *testing.T) {
 		}
 	}
 }
+
+// P24.4: whatever redos the journals have.
+func TestAnyRedos(t *testing.T) {
+	r := rand.New(rand.NewSource(26))
+	w := made(t, form(90, 64, 128, 6))
+	w = behind(t, w, api.Call{Kind: api.CallMkdir, Path: "/d"}, api.Call{Kind: api.CallMkdir, Path: "/d/e"})
+	for i := range 45 {
+		dir := []string{"/", "/d/", "/d/e/"}[i%3]
+		w = behind(t, w, api.Call{Kind: api.CallCreate, Path: dir + strconv.Itoa(i)})
+	}
+	for i := range 40 {
+		w = behind(t, w, api.Call{Kind: api.CallLink, Path: "/0", To: "/l" + strconv.Itoa(i)})
+	}
+	l, _ := layout.Read(w)
+	x, _ := image.View(w)
+	key := func() uint64 {
+		names := x.Things[r.Intn(3)].Names
+		return names[r.Intn(len(names))].Key + uint64(r.Intn(2))
+	}
+	mounted := 0
+	for range 1500 {
+		now := slices.Clone(w)
+		for range 1 + r.Intn(3) {
+			redo := api.Redo{Kind: api.RedoName, From: 1 + r.Intn(3), FromKey: key(), To: 1 + r.Intn(3), ToKey: key(), Record: 1 + r.Intn(128), Inode: 1 + r.Intn(50), Dir: r.Intn(2) == 0}
+			if r.Intn(3) == 0 {
+				file, _ := inode.Words(api.Inode{Kind: api.InodeFile, Links: r.Intn(9), Size: 700, Map: []api.Extent{{File: 0, Dev: l.Data + r.Intn(20), Many: 1 + r.Intn(2)}}})
+				redo = api.Redo{Kind: api.RedoInode, Inode: 1 + r.Intn(50), Words: [api.InodeWords]uint64(file)}
+			}
+			s, e := journal.Stores(l, r.Intn(8), redo)
+			if e != api.OK {
+				continue
+			}
+			now = apply(now, s...)
+			if rec, _ := layout.Record(l, max(1, redo.Record)); redo.Record > 0 && r.Intn(2) == 0 {
+				n, _ := record.Stores(rec, api.Record{Inode: redo.Inode, Name: "n" + strconv.Itoa(r.Intn(400))})
+				now = apply(now, n...)
+			}
+		}
+		for range r.Intn(3) {
+			now[l.Data*64+r.Intn(64*12)] = uint64(r.Intn(60))
+		}
+		back, _, e := mount.Mount(now)
+		if e != api.OK {
+			continue
+		}
+		mounted++
+		if mount.Neat(back) != api.OK || deed.Whole(back) != api.OK {
+			t.Fatal("what is mounted is not neat, and whole")
+		}
+	}
+	if mounted < 50 {
+		t.Error(mounted)
+	}
+}
