@@ -131,7 +131,7 @@ func TestCopyAndSame(t *testing.T) {
 		t.Error("same")
 	}
 	for _, none := range []*bitmap.Map{nil, {}} {
-		if none.Set(-1, 0) != api.ErrNil || none.Free(0, 0) != api.ErrNil || none.Left() != 0 || none.Len() != 0 || none.Words() != nil || none.Copy() != nil || !bitmap.Same(none, nil) {
+		if none.Set(-1, 0) != api.ErrNil || none.Free(0, 0) != api.ErrNil || none.Left() != 0 || none.Len() != 0 || len(none.Words()) > 0 || none.Copy() != nil || !bitmap.Same(none, nil) {
 			t.Error("none")
 		}
 		if _, e := none.Get(0); e != api.ErrNil {

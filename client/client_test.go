@@ -152,7 +152,7 @@ func TestLoseCopyNone(t *testing.T) {
 	c.Begin(api.Call{Kind: api.CallWrite, Path: "/f", Bytes: in})
 	in[0] = 'z'
 	c.Step(m, l)
-	if c.Lose() != api.OK || c.Phase() != api.PhaseIdle || c.Left() != nil || !l.Holds(3) {
+	if c.Lose() != api.OK || c.Phase() != api.PhaseIdle || len(c.Left()) > 0 || !l.Holds(3) {
 		t.Error("lose")
 	}
 	l.Free(3)
@@ -183,7 +183,7 @@ func TestLoseCopyNone(t *testing.T) {
 	for _, none := range []*client.Client{nil, {}} {
 		did, e := none.Step(m, l)
 		a, is := none.Answer()
-		if none.Begin(api.Call{}) != api.ErrNil || did != 0 || e != api.ErrNil || none.Lose() != api.ErrNil || !model.SameAnswer(a, api.Answer{}) || is || none.Phase() != api.PhaseIdle || none.Left() != nil || none.Copy() != nil {
+		if none.Begin(api.Call{}) != api.ErrNil || did != 0 || e != api.ErrNil || none.Lose() != api.ErrNil || !model.SameAnswer(a, api.Answer{}) || is || none.Phase() != api.PhaseIdle || len(none.Left()) > 0 || none.Copy() != nil {
 			t.Error("none")
 		}
 	}
@@ -191,10 +191,10 @@ func TestLoseCopyNone(t *testing.T) {
 
 // P26.3, P26.4, P26.5
 func TestRun(t *testing.T) {
-	if a, e := client.Run(nil, 9); a != nil || e != api.ErrNil {
+	if a, e := client.Run(nil, 9); len(a) > 0 || e != api.ErrNil {
 		t.Error(e)
 	}
-	if a, e := client.Run(memory(t), 8); a != nil || e != api.ErrArg {
+	if a, e := client.Run(memory(t), 8); len(a) > 0 || e != api.ErrArg {
 		t.Error(e)
 	}
 	r := rand.New(rand.NewSource(26))

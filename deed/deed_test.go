@@ -82,7 +82,7 @@ func data(l api.Layout, puts []api.Put) []api.Put {
 func TestExamples(t *testing.T) {
 	l := lay(t, 40, 8, 16, 8)
 	words := device(t, l)
-	if a, s := deed.Do(words, 0, call(api.CallLookup, "/a")); !model.SameAnswer(a, api.Answer{Errno: api.ErrNoEnt}) || s != nil {
+	if a, s := deed.Do(words, 0, call(api.CallLookup, "/a")); !model.SameAnswer(a, api.Answer{Errno: api.ErrNoEnt}) || len(s) > 0 {
 		t.Error(a, s)
 	}
 	a, s := deed.Do(words, 0, call(api.CallCreate, "/a"))
@@ -155,15 +155,15 @@ func TestWholeAndSpare(t *testing.T) {
 		if e := deed.Whole(c.words); e != c.e {
 			t.Error(i, e)
 		}
-		if s, e := deed.Spare(c.words); s != nil || e != c.e {
+		if s, e := deed.Spare(c.words); len(s) > 0 || e != c.e {
 			t.Error(i, e)
 		}
-		if a, s := deed.Do(c.words, 9, call(api.CallCreate, "/")); !model.SameAnswer(a, api.Answer{Errno: c.e}) || s != nil {
+		if a, s := deed.Do(c.words, 9, call(api.CallCreate, "/")); !model.SameAnswer(a, api.Answer{Errno: c.e}) || len(s) > 0 {
 			t.Error(i, a)
 		}
 	}
 	for _, client := range []int{-1, 8, math.MaxInt} {
-		if a, s := deed.Do(words, client, call(api.CallCreate, "/")); a.Errno != api.ErrArg || s != nil {
+		if a, s := deed.Do(words, client, call(api.CallCreate, "/")); a.Errno != api.ErrArg || len(s) > 0 {
 			t.Error(client, a)
 		}
 	}
@@ -216,11 +216,11 @@ func TestNames(t *testing.T) {
 		t.Error(s[n-3:])
 	}
 	_, s = deed.Do(other, 0, two(api.CallRename, "/f", "/f"))
-	if s != nil {
+	if len(s) > 0 {
 		t.Error(s)
 	}
 	for _, c := range []api.Call{write("/f", 0, ""), {Kind: api.CallTruncate, Path: "/f"}, call(api.CallStat, "/f"), {Kind: 77}} {
-		if _, s := deed.Do(other, 0, c); s != nil {
+		if _, s := deed.Do(other, 0, c); len(s) > 0 {
 			t.Error(c, s)
 		}
 	}
@@ -254,7 +254,7 @@ func TestBytes(t *testing.T) {
 		t.Error(n)
 	}
 	// The same bytes again, and noughts where nothing lies, need no block.
-	if _, s := deed.Do(now, 2, write("/f", 0, "abc")); s != nil {
+	if _, s := deed.Do(now, 2, write("/f", 0, "abc")); len(s) > 0 {
 		t.Error(s)
 	}
 	_, s = deed.Do(now, 2, api.Call{Kind: api.CallTruncate, Path: "/f", At: 4096})
@@ -289,7 +289,7 @@ func TestExtentsAndSpace(t *testing.T) {
 		t.Error("the file is not laid anew", n.Map)
 	}
 	spare, _ := deed.Spare(words)
-	if a, s := deed.Do(words, 0, write("/f", 24*512, string(bytes.Repeat([]byte("z"), 512*(len(spare)+1))))); a.Errno != api.ErrSpace || s != nil || a.Size != 0 {
+	if a, s := deed.Do(words, 0, write("/f", 24*512, string(bytes.Repeat([]byte("z"), 512*(len(spare)+1))))); a.Errno != api.ErrSpace || len(s) > 0 || a.Size != 0 {
 		t.Error(a)
 	}
 	if a, _ := deed.Do(words, 0, write("/f", 24*512, string(bytes.Repeat([]byte("z"), 512*len(spare))))); a.Errno != api.OK {
@@ -299,7 +299,7 @@ func TestExtentsAndSpace(t *testing.T) {
 	full := behind(t, device(t, small), call(api.CallCreate, "/f"))
 	spare, _ = deed.Spare(full)
 	full = behind(t, full, write("/f", 0, string(bytes.Repeat([]byte("z"), 512*len(spare)))))
-	if a, s := deed.Do(full, 0, call(api.CallMkdir, "/d")); a.Errno != api.ErrSpace || s != nil {
+	if a, s := deed.Do(full, 0, call(api.CallMkdir, "/d")); a.Errno != api.ErrSpace || len(s) > 0 {
 		t.Error(a)
 	}
 	if a, _ := deed.Do(full, 0, call(api.CallCreate, "/d")); a.Errno != api.OK {
@@ -342,7 +342,7 @@ func check(t *testing.T, l api.Layout, words []uint64, client int, c api.Call, a
 	was := m.Copy()
 	want := m.Do(c)
 	if a.Errno == api.ErrSpace {
-		if s != nil {
+		if len(s) > 0 {
 			t.Fatal("stores beside an error")
 		}
 		return words
@@ -368,7 +368,7 @@ func check(t *testing.T, l api.Layout, words []uint64, client int, c api.Call, a
 	if got, e := model.Of(l, x.Things...); e != api.OK || !model.Same(got, m) || deed.Whole(now) != api.OK {
 		t.Fatal(c, e, deed.Whole(now))
 	}
-	if s, _ := space.Stores(now, x); s != nil {
+	if s, _ := space.Stores(now, x); len(s) > 0 {
 		t.Fatal("the map is another one")
 	}
 	return now

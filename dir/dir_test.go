@@ -135,7 +135,7 @@ func TestErrors(t *testing.T) {
 		{words, l, place + 1, "a", api.ErrTree}, {no(far, 0), l, place, "c", api.ErrDir}, {no(far+1, 'x'), l, place, "c", api.ErrDir}, {no(root+9, 17), l, place, "c", api.ErrDir}, {no(root+9, 1<<40), l, place, "c", api.ErrDir},
 		{no(root+8, 1), l, place, "c", api.ErrDir},
 	} {
-		if all, e := dir.List(c.words, c.l, c.at); all != nil || e != c.e {
+		if all, e := dir.List(c.words, c.l, c.at); len(all) > 0 || e != c.e {
 			t.Error(i, all, e)
 		}
 		for range dir.From(c.words, c.l, c.at, 0) {
@@ -147,13 +147,13 @@ func TestErrors(t *testing.T) {
 		if k, e := dir.Room(c.words, c.l, c.at, "c"); k != 0 || e != c.e {
 			t.Error(i, k, e)
 		}
-		if s, n, e := dir.Put(c.words, c.l, c.at, "c", 1, 40); s != nil || n != 0 || e != c.e {
+		if s, n, e := dir.Put(c.words, c.l, c.at, "c", 1, 40); len(s) > 0 || n != 0 || e != c.e {
 			t.Error(i, s, n, e)
 		}
-		if x, s, n, old, e := dir.Take(c.words, c.l, c.at, "c", 40); x != (api.Entry{}) || s != nil || n != 0 || old != nil || e != c.e {
+		if x, s, n, old, e := dir.Take(c.words, c.l, c.at, "c", 40); x != (api.Entry{}) || len(s) > 0 || n != 0 || len(old) > 0 || e != c.e {
 			t.Error(i, s, n, e)
 		}
-		if x, s, e := dir.Swap(c.words, c.l, c.at, "c", 1); x != (api.Entry{}) || s != nil || e != c.e {
+		if x, s, e := dir.Swap(c.words, c.l, c.at, "c", 1); x != (api.Entry{}) || len(s) > 0 || e != c.e {
 			t.Error(i, s, e)
 		}
 	}
@@ -167,10 +167,10 @@ func TestErrors(t *testing.T) {
 		{"a", 0, nil, api.ErrArg, api.ErrArg}, {"a", 17, nil, api.ErrArg, api.ErrArg}, {"", 0, nil, api.ErrArg, api.ErrArg}, {"a/b", 1, nil, api.ErrName, api.ErrName}, {strings.Repeat("x", 121), 1, nil, api.ErrWide, api.ErrWide},
 		{"a", 5, []int{0}, api.ErrTwice, api.ErrArg}, {"c", 5, []int{0}, api.ErrArg, api.ErrNone}, {"c", 1, []int{0}, api.ErrArg, api.ErrNone}, {"c", 1, []int{root / 64}, api.ErrArg, api.ErrNone}, {"a", 6, nil, api.ErrTwice, api.ErrArg}, {"a", 16, nil, api.ErrTwice, api.OK},
 	} {
-		if s, _, e := dir.Put(words, l, place, c.name, c.record, c.free...); e != c.e || s != nil {
+		if s, _, e := dir.Put(words, l, place, c.name, c.record, c.free...); e != c.e || len(s) > 0 {
 			t.Error(i, s, e)
 		}
-		if _, s, e := dir.Swap(words, l, place, c.name, c.record); e != c.swap || (s == nil) == (e == api.OK) {
+		if _, s, e := dir.Swap(words, l, place, c.name, c.record); e != c.swap || (len(s) == 0) == (e == api.OK) {
 			t.Error(i, s, e)
 		}
 	}

@@ -89,12 +89,12 @@ func TestLayAndView(t *testing.T) {
 	if e := func() api.Errno { _, e := image.Lay(api.Layout{}, m.State()...); return e }(); e != api.ErrArg {
 		t.Error(e)
 	}
-	if w, e := image.Lay(l); w != nil || e != api.ErrState {
+	if w, e := image.Lay(l); len(w) > 0 || e != api.ErrState {
 		t.Error(e)
 	}
 	small := lay(t, 32, 16, 40, 8)
 	full := made(t, small, api.Call{Kind: api.CallCreate, Path: "/f"}, api.Call{Kind: api.CallTruncate, Path: "/f", At: 512 * (32 - small.Data)})
-	if w, e := image.Lay(small, full.State()...); w != nil || e != api.ErrSpace {
+	if w, e := image.Lay(small, full.State()...); len(w) > 0 || e != api.ErrSpace {
 		t.Error(e)
 	}
 	full.Do(api.Call{Kind: api.CallTruncate, Path: "/f", At: 512 * (31 - small.Data)})
@@ -145,7 +145,7 @@ func TestNoState(t *testing.T) {
 			w[p.At] = p.Value
 		}
 		x, e := image.View(w)
-		if e != c.e || e != api.OK && (x.Things != nil || x.Blocks != nil || x.Records != nil || x.Layout != (api.Layout{})) {
+		if e != c.e || e != api.OK && (len(x.Things) > 0 || len(x.Blocks) > 0 || len(x.Records) > 0 || x.Layout != (api.Layout{})) {
 			t.Error(i, e)
 		}
 		if e == api.OK {

@@ -45,7 +45,7 @@ func TestCheckWordsOfSame(t *testing.T) {
 		}
 	}
 	for _, n := range bad() {
-		if w, e := inode.Words(n); w != nil || e != api.ErrInode || inode.Check(n) != api.ErrInode {
+		if w, e := inode.Words(n); len(w) > 0 || e != api.ErrInode || inode.Check(n) != api.ErrInode {
 			t.Error(n, w, e)
 		}
 	}
@@ -126,10 +126,10 @@ func TestStoresAndLinked(t *testing.T) {
 		if e != api.OK || !slices.Equal(was, want) {
 			t.Error(n, l, e)
 		}
-		if l, e := inode.Stores(5, want, n); l != nil || e != api.OK {
+		if l, e := inode.Stores(5, want, n); len(l) > 0 || e != api.OK {
 			t.Error(l, e)
 		}
-		if l, e := inode.Stores(5, want[:15], n); l != nil || e != api.ErrInode {
+		if l, e := inode.Stores(5, want[:15], n); len(l) > 0 || e != api.ErrInode {
 			t.Error(l, e)
 		}
 		if n.Kind != api.InodeNone {
@@ -142,7 +142,7 @@ func TestStoresAndLinked(t *testing.T) {
 		}
 	}
 	for _, n := range bad() {
-		if l, e := inode.Stores(5, make([]uint64, 16), n); l != nil || e != api.ErrInode {
+		if l, e := inode.Stores(5, make([]uint64, 16), n); len(l) > 0 || e != api.ErrInode {
 			t.Error(l, e)
 		}
 	}

@@ -80,10 +80,10 @@ func TestCheckWordsOf(t *testing.T) {
 		}
 	}
 	for _, r := range bad() {
-		if w, e := journal.Words(l, r); w != nil || e != api.ErrJournal || journal.Check(l, r) != api.ErrJournal {
+		if w, e := journal.Words(l, r); len(w) > 0 || e != api.ErrJournal || journal.Check(l, r) != api.ErrJournal {
 			t.Error(r, w, e)
 		}
-		if s, e := journal.Stores(l, 3, r); s != nil || e != api.ErrJournal {
+		if s, e := journal.Stores(l, 3, r); len(s) > 0 || e != api.ErrJournal {
 			t.Error(r, s, e)
 		}
 	}
@@ -159,10 +159,10 @@ func TestStoresAndStrike(t *testing.T) {
 		}
 	}
 	for _, client := range []int{-1, 8, math.MaxInt} {
-		if s, e := journal.Strike(l, client); s != nil || e != api.ErrArg {
+		if s, e := journal.Strike(l, client); len(s) > 0 || e != api.ErrArg {
 			t.Error(client, s, e)
 		}
-		if s, e := journal.Stores(l, client, api.Redo{}); s != nil || e != api.ErrArg {
+		if s, e := journal.Stores(l, client, api.Redo{}); len(s) > 0 || e != api.ErrArg {
 			t.Error(client, s, e)
 		}
 	}

@@ -26,7 +26,7 @@ func waits(l *latch.Latch) []api.Turn {
 // P25.1, P25.2
 func TestTurns(t *testing.T) {
 	l := latch.New()
-	if l.Held() != nil || waits(l) != nil {
+	if len(l.Held()) > 0 || len(waits(l)) > 0 {
 		t.Error("new")
 	}
 	for _, x := range []api.Turn{turn(1, false), turn(2, true), turn(3, false)} {
@@ -83,7 +83,7 @@ func TestTurns(t *testing.T) {
 		t.Error(l.Held(), waits(l))
 	}
 	// One that waits goes: those behind it may get it.
-	if l.Free(7) != api.OK || !l.Holds(6) || waits(l) != nil {
+	if l.Free(7) != api.OK || !l.Holds(6) || len(waits(l)) > 0 {
 		t.Error(l.Held())
 	}
 	l.Held()[0] = turn(5, true)
@@ -106,7 +106,7 @@ func TestSameAndNone(t *testing.T) {
 		t.Error("other orders are the same")
 	}
 	for _, none := range []*latch.Latch{nil, {}} {
-		if none.Ask(9, true) != api.ErrNil || none.Free(9) != api.ErrNil || none.Holds(0) || none.Held() != nil || waits(none) != nil || none.Copy() != nil || !latch.Same(none, nil) {
+		if none.Ask(9, true) != api.ErrNil || none.Free(9) != api.ErrNil || none.Holds(0) || len(none.Held()) > 0 || len(waits(none)) > 0 || none.Copy() != nil || !latch.Same(none, nil) {
 			t.Error("none")
 		}
 	}
@@ -142,7 +142,7 @@ func TestAllGetIt(t *testing.T) {
 				t.Fatal(held)
 			}
 		}
-		if len(held) == 0 && waits(l) != nil {
+		if len(held) == 0 && len(waits(l)) > 0 {
 			t.Fatal("nobody holds it, and somebody waits")
 		}
 		for c, all := range ahead {

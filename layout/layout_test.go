@@ -72,7 +72,7 @@ func TestSuperAndRead(t *testing.T) {
 	bad := l
 	bad.Data++
 	for _, l := range []api.Layout{{}, bad} {
-		if w, e := layout.Super(l); w != nil || e != api.ErrArg {
+		if w, e := layout.Super(l); len(w) > 0 || e != api.ErrArg {
 			t.Error(e)
 		}
 		for range layout.Each(l) {

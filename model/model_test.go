@@ -280,7 +280,7 @@ func TestCopySameNone(t *testing.T) {
 	}
 	for _, none := range []*model.Model{nil, {}} {
 		i, r := none.Spare()
-		if none.State() != nil || none.Copy() != nil || i != 0 || r != 0 || !model.SameAnswer(none.Do(call(99, "")), no(api.ErrNil)) || !model.Same(none, nil) {
+		if len(none.State()) > 0 || none.Copy() != nil || i != 0 || r != 0 || !model.SameAnswer(none.Do(call(99, "")), no(api.ErrNil)) || !model.Same(none, nil) {
 			t.Error("none")
 		}
 	}

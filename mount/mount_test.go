@@ -68,7 +68,7 @@ func state(t *testing.T, words []uint64) *model.Model {
 // P24.1, P24.4
 func TestMake(t *testing.T) {
 	w := made(t, form(32, 8, 16, 8))
-	if l, e := mount.Right(w); l != nil || e != api.OK || mount.Neat(w) != api.OK || deed.Whole(w) != api.OK {
+	if l, e := mount.Right(w); len(l) > 0 || e != api.OK || mount.Neat(w) != api.OK || deed.Whole(w) != api.OK {
 		t.Error(l, e)
 	}
 	x, _ := image.View(w)
@@ -81,7 +81,7 @@ func TestMake(t *testing.T) {
 		form(31, 8, 16, 8): api.ErrArg, form(32, 8, 1024, 8): api.ErrArg, {}: api.ErrArg, form(267+62, 4, 1024, 8): api.OK, form(267+61, 4, 1024, 8): api.ErrSpace, form(267+4, 4, 1024, 8): api.ErrSpace, form(267+3, 4, 1024, 8): api.ErrArg, form(32, 4, 64, 1): api.ErrSpace,
 	} {
 		w, e := mount.Make(f, [2]uint64{})
-		if e != want || (w == nil) != (e != api.OK) {
+		if e != want || (len(w) == 0) != (e != api.OK) {
 			t.Error(f, e)
 		}
 	}
@@ -153,7 +153,7 @@ func TestErrors(t *testing.T) {
 	} {
 		got, e := mount.Right(c.words)
 		back, x, f := mount.Mount(c.words)
-		if got != nil || e != c.e || back != nil || f != c.e || x.Things != nil || x.Layout != (api.Layout{}) || mount.Neat(c.words) != c.e {
+		if len(got) > 0 || e != c.e || len(back) > 0 || f != c.e || len(x.Things) > 0 || x.Layout != (api.Layout{}) || mount.Neat(c.words) != c.e {
 			t.Error(i, e, f, mount.Neat(c.words))
 		}
 		for range mount.Each(c.words) {
@@ -201,7 +201,7 @@ func TestTreesAnew(t *testing.T) {
 	}
 	tight := slices.Clone(half)
 	copy(tight[n:], full)
-	if got, e := mount.Right(tight); got != nil || e != api.ErrSpace {
+	if got, e := mount.Right(tight); len(got) > 0 || e != api.ErrSpace {
 		t.Error(e)
 	}
 }

@@ -27,7 +27,7 @@ func TestCheckPartsEach(t *testing.T) {
 		"/" + wide(121) + "\x00": api.ErrName, strings.Repeat("/", 1000): api.OK, strings.Repeat("/", 1001): api.ErrLong, "/a/" + wide(121) + "/b": api.ErrWide,
 	} {
 		l, e := names.Parts(path)
-		if e != want || e != api.OK && l != nil {
+		if e != want || e != api.OK && len(l) > 0 {
 			t.Errorf("%q: %v, not %v", path, e, want)
 		}
 		if e != api.OK {

@@ -114,7 +114,7 @@ func TestRefused(t *testing.T) {
 	if _, e := order.Reads(many[:64]); e != api.OK {
 		t.Error(e)
 	}
-	if l, e := order.Find(m, many[:9]); l != nil || e != api.ErrLong {
+	if l, e := order.Find(m, many[:9]); len(l) > 0 || e != api.ErrLong {
 		t.Error(e)
 	}
 	for range order.Each(many[:9]) {
@@ -138,14 +138,14 @@ func TestReadsFindEach(t *testing.T) {
 	if list, e := order.Reads(same); e != api.OK || !slices.Equal(list, []int{3, 0, 2}) {
 		t.Error(list, e)
 	}
-	if list, e := order.Reads([]api.Moment{moment(0, 9, 2, api.CallLookup, "/", api.Answer{}), moment(5, 6, 8, api.CallLookup, "/", api.Answer{})}); list != nil || e != api.ErrArg {
+	if list, e := order.Reads([]api.Moment{moment(0, 9, 2, api.CallLookup, "/", api.Answer{}), moment(5, 6, 8, api.CallLookup, "/", api.Answer{})}); len(list) > 0 || e != api.ErrArg {
 		t.Error(list, e)
 	}
 	if list, e := order.Reads(nil); len(list) != 0 || e != api.OK {
 		t.Error(list, e)
 	}
 	never := append(two(), moment(6, 7, 8, api.CallLookup, "/b", api.Answer{Inode: 3}))
-	if list, e := order.Find(m, never); list != nil || e != api.ErrOrder {
+	if list, e := order.Find(m, never); len(list) > 0 || e != api.ErrOrder {
 		t.Error(list, e)
 	}
 	collect := func(l []api.Moment) [][]int {
@@ -204,7 +204,7 @@ func TestFindIsTheFirst(t *testing.T) {
 			}
 		}
 		got, e := order.Find(m, l)
-		if (e == api.OK) != (want != nil) || e != api.OK && e != api.ErrOrder || !slices.Equal(got, want) {
+		if (e == api.OK) != (len(want) > 0) || e != api.OK && e != api.ErrOrder || !slices.Equal(got, want) {
 			t.Fatal(got, want, e)
 		}
 	}

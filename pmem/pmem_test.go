@@ -119,7 +119,7 @@ func TestOpenAndCrash(t *testing.T) {
 		t.Error("open")
 	}
 	m.Evict(0)
-	if l := slices.Collect(m.Open()); l != nil {
+	if l := slices.Collect(m.Open()); len(l) > 0 {
 		t.Error(l)
 	}
 	// What stands there lasts, but another content is queued: open too.
@@ -173,7 +173,7 @@ func TestCopyAndSame(t *testing.T) {
 		t.Error("same")
 	}
 	for _, none := range []*pmem.Memory{nil, {}} {
-		if none.Store(-1, 0) != api.ErrNil || none.Flush(-1) != api.ErrNil || none.Fence() != api.ErrNil || none.Evict(9) != api.ErrNil || none.Len() != 0 || none.Image() != nil || none.Lasting() != nil || none.Copy() != nil || !pmem.Same(none, nil) {
+		if none.Store(-1, 0) != api.ErrNil || none.Flush(-1) != api.ErrNil || none.Fence() != api.ErrNil || none.Evict(9) != api.ErrNil || none.Len() != 0 || len(none.Image()) > 0 || len(none.Lasting()) > 0 || none.Copy() != nil || !pmem.Same(none, nil) {
 			t.Error("none")
 		}
 		if v, e := none.Load(0); v != 0 || e != api.ErrNil {

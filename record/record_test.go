@@ -59,7 +59,7 @@ func TestWordsOfStores(t *testing.T) {
 	for _, r := range []api.Record{{}, rec(0, "a"), rec(257, "a"), rec(-1, "a"), rec(1, ""), rec(1, ".."), rec(1, "a/b"), rec(1, wide(121)), rec(1, "\x00")} {
 		w, e := record.Words(r)
 		l, f := record.Stores(4, r)
-		if record.Check(r) != api.ErrRecord || w != nil || e != api.ErrRecord || l != nil || f != api.ErrRecord {
+		if record.Check(r) != api.ErrRecord || len(w) > 0 || e != api.ErrRecord || len(l) > 0 || f != api.ErrRecord {
 			t.Error(r, e, f)
 		}
 	}

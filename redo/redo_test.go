@@ -106,7 +106,7 @@ func TestAgainInode(t *testing.T) {
 	if e != api.OK || !slices.Equal(s, []api.Put{{At: at + 1, Value: 600}, {At: at + 2, Value: 1 | 100<<16 | 1<<40}}) {
 		t.Error(s, e)
 	}
-	if s, e := redo.Again(apply(words, s), l, r); s != nil || e != api.OK {
+	if s, e := redo.Again(apply(words, s), l, r); len(s) > 0 || e != api.OK {
 		t.Error(s, e)
 	}
 	seq := redo.Each(words, l, r)
@@ -134,7 +134,7 @@ func TestAgainInode(t *testing.T) {
 		r     api.Redo
 		e     api.Errno
 	}{{words[:64], l, r, api.ErrArg}, {nil, l, r, api.ErrArg}, {nil, l, api.Redo{}, api.ErrJournal}, {words, api.Layout{}, api.Redo{}, api.ErrArg}, {words, l, api.Redo{Kind: api.RedoName, From: 1, To: 5, Record: 1, Inode: 3}, api.ErrRedo}, {words, l, api.Redo{Kind: api.RedoName, From: 100, To: 1, Record: 1, Inode: 3}, api.ErrRedo}} {
-		if s, e := redo.Again(c.words, c.l, c.r); s != nil || e != c.e {
+		if s, e := redo.Again(c.words, c.l, c.r); len(s) > 0 || e != c.e {
 			t.Error(i, s, e)
 		}
 		for range redo.Each(c.words, c.l, c.r) {
@@ -165,7 +165,7 @@ func TestAgainName(t *testing.T) {
 			}
 			behind := apply(words, s)
 			checkMove(t, words, behind, l, x)
-			if more, e := redo.Again(behind, l, x); more != nil || e != api.OK {
+			if more, e := redo.Again(behind, l, x); len(more) > 0 || e != api.OK {
 				t.Fatal(more, e)
 			}
 			for n := range s {

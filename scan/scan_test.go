@@ -111,11 +111,11 @@ func TestLookAndTrace(t *testing.T) {
 		t.Error("a slot that counts for nothing is found")
 	}
 	for _, bad := range [][]uint64{nil, make([]uint64, 2), make([]uint64, 7), make([]uint64, 58)} {
-		if p, is := scan.Look(api.ScanUp, 9, bad, 0); p != 0 || is || loads(api.ScanUp, 9, bad, 0) != nil {
+		if p, is := scan.Look(api.ScanUp, 9, bad, 0); p != 0 || is || len(loads(api.ScanUp, 9, bad, 0)) > 0 {
 			t.Error(bad)
 		}
 	}
-	if p, is := scan.Look(api.ScanUp, 0, s, 3); p != 0 || is || loads(api.ScanDown, 0, s, 3) != nil {
+	if p, is := scan.Look(api.ScanUp, 0, s, 3); p != 0 || is || len(loads(api.ScanDown, 0, s, 3)) > 0 {
 		t.Error("no left")
 	}
 	seq := scan.Trace(api.ScanUp, 9, s, 3)

@@ -59,7 +59,7 @@ func TestFree(t *testing.T) {
 	for n := range 48 {
 		all.Records = append(all.Records[:min(n, len(all.Records))], n+1)
 	}
-	if l, e := space.Free(all); l != nil || e != api.OK || slices.Collect(space.Runs(all)) != nil {
+	if l, e := space.Free(all); len(l) > 0 || e != api.OK || len(slices.Collect(space.Runs(all))) > 0 {
 		t.Error(l, e)
 	}
 	if n, e := space.Record(all); n != 0 || e != api.ErrNone {
@@ -132,10 +132,10 @@ func TestMapAndStores(t *testing.T) {
 		t.Error(l, e)
 	}
 	words[at], words[at+5], words[at+63] = w[0], 0, 0
-	if l, e := space.Stores(words, x); l != nil || e != api.OK {
+	if l, e := space.Stores(words, x); len(l) > 0 || e != api.OK {
 		t.Error(l, e)
 	}
-	if l, e := space.Stores(words[1:], x); l != nil || e != api.ErrArg {
+	if l, e := space.Stores(words[1:], x); len(l) > 0 || e != api.ErrArg {
 		t.Error(l, e)
 	}
 }

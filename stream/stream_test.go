@@ -100,7 +100,7 @@ func TestStream(t *testing.T) {
 	for _, none := range []*stream.Stream{nil, {}} {
 		c, is := none.Call()
 		over, e := none.Over()
-		if is || !same(c, api.Call{}) || !over || e != api.ErrNil || none.Take(api.Answer{}) != api.ErrNil || none.Seek(1) != api.ErrNil || told(none) != nil || none.Cursor() != 0 || none.Copy() != nil {
+		if is || !same(c, api.Call{}) || !over || e != api.ErrNil || none.Take(api.Answer{}) != api.ErrNil || none.Seek(1) != api.ErrNil || len(told(none)) > 0 || none.Cursor() != 0 || none.Copy() != nil {
 			t.Error("none")
 		}
 	}
@@ -125,7 +125,7 @@ func TestRun(t *testing.T) {
 		many int
 		e    api.Errno
 	}{{nil, "x", 0, api.ErrNil}, {&model.Model{}, "/", 1, api.ErrNil}, {m, "x", 0, api.ErrArg}, {m, "x", 1, api.ErrName}, {m, "/q", 1, api.ErrNoEnt}, {m, "/3", 1, api.ErrNotDir}} {
-		if l, e := stream.Run(c.m, c.path, c.many); l != nil || e != c.e {
+		if l, e := stream.Run(c.m, c.path, c.many); len(l) > 0 || e != c.e {
 			t.Error(i, l, e)
 		}
 	}

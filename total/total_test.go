@@ -275,6 +275,22 @@ func TestAnyArguments(t *testing.T) {
 	}
 }
 
+// empty says whether an answer tells nothing: a list of none is as good as no list.
+func empty(v reflect.Value) bool {
+	switch v.Kind() {
+	case reflect.Slice:
+		return v.Len() == 0
+	case reflect.Struct:
+		for i := range v.NumField() {
+			if !empty(v.Field(i)) {
+				return false
+			}
+		}
+		return true
+	}
+	return v.IsZero()
+}
+
 // call calls a function with arguments of any kind.
 func (m *maker) call(t *testing.T, f reflect.Value) {
 	ft := f.Type()
@@ -308,7 +324,7 @@ func (m *maker) call(t *testing.T, f reflect.Value) {
 	for _, v := range out {
 		if v.Kind() == reflect.Func {
 			m.exhaust(v)
-		} else if failed && v.Type() != reflect.TypeFor[api.Errno]() && !v.IsZero() && v.Type() != reflect.TypeFor[api.DidKind]() && v.Kind() != reflect.Bool {
+		} else if failed && v.Type() != reflect.TypeFor[api.Errno]() && !empty(v) && v.Type() != reflect.TypeFor[api.DidKind]() && v.Kind() != reflect.Bool {
 			t.Fatal(ft, "answers something beside an error", in, out)
 		}
 		m.keep(v)

@@ -117,10 +117,10 @@ func TestReading(t *testing.T) {
 		if e := tree.Check(c.words, c.at); e != c.e {
 			t.Error(i, e)
 		}
-		if l, e := tree.All(c.words, c.at); l != nil || e != c.e {
+		if l, e := tree.All(c.words, c.at); len(l) > 0 || e != c.e {
 			t.Error(i, e)
 		}
-		if l, e := tree.Blocks(c.words, c.at); l != nil || e != c.e {
+		if l, e := tree.Blocks(c.words, c.at); len(l) > 0 || e != c.e {
 			t.Error(i, e)
 		}
 		if p, is, e := tree.Find(c.words, c.at, 5); p != 0 || is || e != c.e {
@@ -155,7 +155,7 @@ func TestHalfDone(t *testing.T) {
 		if p, is, e := tree.Find(words, 0, 9); e != c.find || e == api.OK && (p != 3 || !is) || e != api.OK && (p != 0 || is) {
 			t.Error(i, p, is, e)
 		}
-		if l, n, e := tree.Put(words, 0, pair(4, 4)); l != nil || n != 0 || e != api.ErrTree {
+		if l, n, e := tree.Put(words, 0, pair(4, 4)); len(l) > 0 || n != 0 || e != api.ErrTree {
 			t.Error(i, e)
 		}
 		if _, _, _, e := tree.Take(words, 0, 1); e != api.ErrTree {
@@ -182,11 +182,11 @@ func TestErrors(t *testing.T) {
 		{full, pair(10, 99), nil, api.ErrTwice}, {full, pair(11, 99), nil, api.ErrSpace}, {full, pair(11, 99), []int{2}, api.ErrSpace}, {words[:64], pair(1, 1), nil, api.ErrTree}, {nil, pair(1, 1), nil, api.ErrArg},
 	} {
 		l, used, e := tree.Put(c.words, 0, c.p, c.free...)
-		if e != c.e || used != 0 || e != api.OK && l != nil {
+		if e != c.e || used != 0 || e != api.OK && len(l) > 0 {
 			t.Error(i, l, used, e)
 		}
 	}
-	if l, _, old, e := tree.Take(words, 0, 8, 2); l != nil || old != nil || e != api.ErrNone {
+	if l, _, old, e := tree.Take(words, 0, 8, 2); len(l) > 0 || len(old) > 0 || e != api.ErrNone {
 		t.Error(e)
 	}
 	if _, _, _, e := tree.Take(words, 0, 7, 1); e != api.ErrArg {
@@ -237,7 +237,7 @@ func TestBuild(t *testing.T) {
 		{nil, nil, api.ErrSpace}, {nil, []int{0}, api.ErrArg}, {nil, []int{2048}, api.ErrArg}, {nil, []int{5, 5}, api.ErrArg}, {[]api.Pair{pair(2, 1), pair(2, 2)}, []int{5}, api.ErrArg}, {[]api.Pair{pair(2, 1), pair(1, 2)}, nil, api.ErrArg},
 		{[]api.Pair{pair(2, 0)}, []int{5}, api.ErrArg}, {[]api.Pair{pair(2, 1<<40+1)}, []int{5}, api.ErrArg}, {[]api.Pair{pair(2, 1), pair(3, 1)}, []int{5}, api.ErrArg}, {run(19), []int{5, 6}, api.ErrSpace},
 	} {
-		if root, l, used, e := tree.Build(c.l, c.free...); root != 0 || l != nil || used != 0 || e != c.e {
+		if root, l, used, e := tree.Build(c.l, c.free...); root != 0 || len(l) > 0 || used != 0 || e != c.e {
 			t.Error(i, root, used, e)
 		}
 	}
@@ -276,7 +276,7 @@ func TestTakeBuildsAnew(t *testing.T) {
 				t.Error(used, old, l[len(l)-1])
 			}
 			break
-		} else if used != 0 || old != nil {
+		} else if used != 0 || len(old) > 0 {
 			t.Error(i, used, old)
 		}
 	}
@@ -286,7 +286,7 @@ func TestTakeBuildsAnew(t *testing.T) {
 	words = built(t, 20, run(19))
 	for i := range 8 {
 		l, used, old, e := tree.Take(words, 0, uint64(10*i+10))
-		if e != api.OK || used != 0 || old != nil {
+		if e != api.OK || used != 0 || len(old) > 0 {
 			t.Error("without free blocks", used, old, e)
 		}
 		words = apply(words, l)

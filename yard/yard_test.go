@@ -69,7 +69,7 @@ func TestExamples(t *testing.T) {
 	play(t, y,
 		row{begin(0, mkdir("/a")), 0, api.OK}, row{pick(0), api.DidAsk, api.OK}, row{pick(0), api.DidRead, api.OK}, row{crash(), 0, api.OK}, row{pick(0), 0, api.ErrDown},
 	)
-	if y.Up() || y.Left() != 0 || y.Held() != nil {
+	if y.Up() || y.Left() != 0 || len(y.Held()) > 0 {
 		t.Error("up")
 	}
 	play(t, y, row{begin(0, mkdir("/a")), 0, api.ErrDown}, row{mounts(0), 0, api.ErrArg}, row{mounts(9), 0, api.OK}, row{mounts(9), 0, api.ErrUp}, row{mounts(0), 0, api.ErrUp})
@@ -100,7 +100,7 @@ func TestErrors(t *testing.T) {
 	)
 	for _, none := range []*yard.Yard{nil, {}} {
 		did, e := none.Do(api.Hap{})
-		if did != 0 || e != api.ErrNil || none.Up() || none.History() != nil || none.Memory() != nil || none.Haps() != 0 || none.Left() != 0 || none.Held() != nil || none.Copy() != nil {
+		if did != 0 || e != api.ErrNil || none.Up() || len(none.History()) > 0 || none.Memory() != nil || none.Haps() != 0 || none.Left() != 0 || len(none.Held()) > 0 || none.Copy() != nil {
 			t.Error("none")
 		}
 	}
