@@ -134,10 +134,10 @@ func TestCopyAndSame(t *testing.T) {
 		if none.Set(-1, 0) != api.ErrNil || none.Free(0, 0) != api.ErrNil || none.Left() != 0 || none.Len() != 0 || len(none.Words()) > 0 || none.Copy() != nil || !bitmap.Same(none, nil) {
 			t.Error("none")
 		}
-		if _, e := none.Get(0); e != api.ErrNil {
+		if is, e := none.Get(0); is || e != api.ErrNil {
 			t.Error(e)
 		}
-		if _, e := none.Find(0, 0); e != api.ErrNil {
+		if at, e := none.Find(0, 0); at != 0 || e != api.ErrNil {
 			t.Error(e)
 		}
 		for range none.Runs() {

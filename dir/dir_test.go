@@ -98,6 +98,9 @@ func TestReading(t *testing.T) {
 			t.Error(y, is, e)
 		}
 	}
+	if got := slices.Collect(dir.From(words, l, place, all[1].Key)); !slices.Equal(got, all[1:]) {
+		t.Error(got)
+	}
 	seq := dir.From(words, l, place, all[0].Key+1)
 	for range 2 {
 		if got := slices.Collect(seq); !slices.Equal(got, all[1:]) {
@@ -141,10 +144,10 @@ func TestErrors(t *testing.T) {
 		for range dir.From(c.words, c.l, c.at, 0) {
 			t.Error(i)
 		}
-		if x, is, e := dir.Find(c.words, c.l, c.at, "c"); x != (api.Entry{}) || is || e != c.e {
+		if x, is, e := dir.Find(c.words, c.l, c.at, c.name); x != (api.Entry{}) || is || e != c.e {
 			t.Error(i, x, is, e)
 		}
-		if k, e := dir.Room(c.words, c.l, c.at, "c"); k != 0 || e != c.e {
+		if k, e := dir.Room(c.words, c.l, c.at, c.name); k != 0 || e != c.e {
 			t.Error(i, k, e)
 		}
 		if s, n, e := dir.Put(c.words, c.l, c.at, "c", 1, 40); len(s) > 0 || n != 0 || e != c.e {
@@ -186,12 +189,53 @@ func TestErrors(t *testing.T) {
 	if _, e := dir.Room(words, l, place, "."); e != api.ErrName {
 		t.Error(e)
 	}
+	// A name that may not be is told ahead of what does not read.
+	if _, _, e := dir.Find(words, l, place+1, ".."); e != api.ErrName {
+		t.Error(e)
+	}
+	if _, e := dir.Room(words, l, place+1, "a/"); e != api.ErrName {
+		t.Error(e)
+	}
+	if _, _, e := dir.Put(words, l, place+1, "", 1); e != api.ErrName {
+		t.Error(e)
+	}
+	if _, _, _, _, e := dir.Take(words, l, place+1, ""); e != api.ErrName {
+		t.Error(e)
+	}
+	if _, _, e := dir.Swap(words, l, place+1, strings.Repeat("x", 121), 1); e != api.ErrWide {
+		t.Error(e)
+	}
 	half := no(root+13, words[root+11])
 	if _, _, _, _, e := dir.Take(half, l, place, "a"); e != api.ErrTree {
 		t.Error(e)
 	}
 	if _, e := dir.List(half, l, place); e != api.OK {
 		t.Error(e)
+	}
+}
+
+// P16.2: a record that an entry in another leaf has.
+func TestRecordTaken(t *testing.T) {
+	words, l := device(t, 60, 40)
+	var names []string
+	for i := range 40 {
+		names = append(names, "n"+strconv.Itoa(i))
+	}
+	for i, name := range names {
+		words = write(t, words, l, 1+i, 2, name)
+		s, _, e := dir.Put(words, l, place, name, 1+i, freeOf(words, []int{30, 31, 32, 33, 34, 35})...)
+		if e != api.OK {
+			t.Fatal(e)
+		}
+		words = store(words, s)
+	}
+	for n := 1; n <= 40; n++ {
+		if _, _, e := dir.Put(words, l, place, "new", n, 40, 41); e != api.ErrArg {
+			t.Error(n, e)
+		}
+		if _, _, e := dir.Swap(words, l, place, names[n%40], n); e != api.ErrArg {
+			t.Error(n, e)
+		}
 	}
 }
 

@@ -96,6 +96,9 @@ func TestPutAndCut(t *testing.T) {
 	if l, r, e := extents.Put(full, ext(50, 100, 1)); len(l) > 0 || len(r) > 0 || e != api.ErrLong {
 		t.Error(l, r, e)
 	}
+	if l, _, e := extents.Put(full[:9], ext(50, 100, 1)); e != api.OK || len(l) != 10 {
+		t.Error(l, e)
+	}
 	if l, _, e := extents.Put(full, ext(1, 11, 1)); e != api.OK || len(l) != 9 {
 		t.Error(l, e)
 	}

@@ -103,6 +103,18 @@ func TestLayAndView(t *testing.T) {
 	}
 }
 
+// P19.1: a file has as many blocks as its bytes need.
+func TestBlocksOfAFile(t *testing.T) {
+	l := lay(t, 40, 16, 16, 8)
+	for size, blocks := range map[int]int{0: 0, 1: 1, 511: 1, 512: 1, 513: 2, 1024: 2, 1025: 3} {
+		m := made(t, l, api.Call{Kind: api.CallCreate, Path: "/f"}, api.Call{Kind: api.CallWrite, Path: "/f", Bytes: bytes.Repeat([]byte{9}, size)})
+		x, e := image.View(words(t, m, l))
+		if e != api.OK || len(x.Blocks) != 1+blocks || !bytes.Equal(x.Things[1].Bytes, bytes.Repeat([]byte{9}, size)) {
+			t.Error(size, x.Blocks, e)
+		}
+	}
+}
+
 // P19.2
 func TestSame(t *testing.T) {
 	l := lay(t, 40, 16, 16, 8)
@@ -180,6 +192,9 @@ func TestEach(t *testing.T) {
 			for i := range x.Bytes {
 				x.Bytes[i] = 99
 			}
+			for i := range x.Names {
+				x.Names[i].Key = 99
+			}
 		}
 		if got[0] != "/" || len(got) != 7 || slices.Index(got, "/a/d/empty") != slices.Index(got, "/a/d")+1 {
 			t.Error(got)
@@ -197,8 +212,8 @@ func TestEach(t *testing.T) {
 		}
 	}
 	for _, x := range seq {
-		if x.Inode == 3 && x.Bytes[0] == 99 {
-			t.Error("bytes are shared")
+		if x.Inode == 3 && x.Bytes[0] == 99 || len(x.Names) > 0 && x.Names[0].Key == 99 {
+			t.Error("lists are shared")
 		}
 	}
 	for path := range seq {

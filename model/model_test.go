@@ -91,6 +91,7 @@ func TestMaking(t *testing.T) {
 		row{call(api.CallLookup, "/d/l"), api.Answer{Inode: 3, Kind: api.InodeFile}}, row{call(api.CallLookup, "/"), api.Answer{Inode: 1, Kind: api.InodeDir}}, row{call(api.CallStat, "/d"), api.Answer{Inode: 2, Kind: api.InodeDir, Links: 1, Size: 2}},
 		row{two(api.CallLink, "/d/f", "/h"), in(3)}, row{two(api.CallLink, "/d/f", "/i"), no(api.ErrNoRecord)}, row{two(api.CallRename, "/h", "/k"), no(api.ErrNoRecord)}, row{two(api.CallRename, "/h", "/d/f"), in(3)}, row{two(api.CallRename, "/h", "/h"), in(3)},
 		row{call(api.CallUnlink, "/h"), api.Answer{}}, row{call(api.CallCreate, "/e"), no(api.ErrNoInode)}, row{call(api.CallUnlink, "/d/l"), api.Answer{}}, row{call(api.CallCreate, "/e"), in(4)},
+		row{call(api.CallUnlink, "/e"), api.Answer{}}, row{two(api.CallSymlink, "/dang", "gone"), in(4)}, row{call(api.CallCreate, "/dang"), no(api.ErrExists)}, row{call(api.CallLookup, "/dang"), no(api.ErrNoEnt)}, row{call(api.CallCreate, "/dang/x"), no(api.ErrNoEnt)},
 		row{call(api.CallNone, "/"), no(api.ErrArg)}, row{call(15, "/"), no(api.ErrArg)}, row{call(-1, ""), no(api.ErrArg)},
 	)
 	m = made(t, 8, 4, 8)
@@ -125,6 +126,17 @@ func TestRename(t *testing.T) {
 		row{two(api.CallRename, "/d", "/d/e/x"), no(api.ErrInside)}, row{two(api.CallRename, "/d", "/d/e"), no(api.ErrInside)}, row{two(api.CallRename, "/d", "/d/g"), no(api.ErrInside)}, row{two(api.CallRename, "/d", "/f"), no(api.ErrNotDir)}, row{two(api.CallRename, "/z", "/d"), no(api.ErrNotEmpty)}, row{two(api.CallRename, "/f", "/z"), no(api.ErrIsDir)}, row{two(api.CallRename, "/d/e", "/d"), no(api.ErrNotEmpty)}, row{two(api.CallRename, "/d/g", "/d"), no(api.ErrIsDir)},
 		row{two(api.CallRename, "/d", "/z"), in(2)}, row{call(api.CallLookup, "/d"), no(api.ErrNoEnt)}, row{call(api.CallLookup, "/z/e/../g"), api.Answer{Inode: 5, Kind: api.InodeFile}}, row{call(api.CallMkdir, "/n"), in(6)},
 		row{two(api.CallRename, "/z/e", "/n/e2"), in(3)}, row{call(api.CallLookup, "/n/e2/.."), api.Answer{Inode: 6, Kind: api.InodeDir}}, row{two(api.CallRename, "/f", "/z/g"), in(4)}, row{call(api.CallStat, "/z/g"), api.Answer{Inode: 4, Kind: api.InodeFile, Links: 2}}, row{call(api.CallCreate, "/new"), in(5)},
+	)
+}
+
+// P18.2: links are moved, and taken over, themselves; they are followed, where it is said.
+func TestLinksThemselves(t *testing.T) {
+	m := made(t, 16, 32, 8)
+	play(t, m,
+		row{call(api.CallMkdir, "/d"), in(2)}, row{call(api.CallCreate, "/f"), in(3)}, row{two(api.CallSymlink, "/lf", "f"), in(4)}, row{two(api.CallSymlink, "/ld", "d"), in(5)}, row{two(api.CallSymlink, "/full", strings.Repeat("x", 112)), in(6)},
+		row{call(api.CallStat, "/lf"), api.Answer{Inode: 3, Kind: api.InodeFile, Links: 1}}, row{call(api.CallLookup, "/ld"), api.Answer{Inode: 2, Kind: api.InodeDir}}, row{two(api.CallRename, "/lf", "/moved"), in(4)}, row{call(api.CallReadlink, "/moved"), api.Answer{Text: "f"}}, row{call(api.CallLookup, "/lf"), no(api.ErrNoEnt)},
+		row{two(api.CallRename, "/f", "/moved"), in(3)}, row{call(api.CallLookup, "/moved"), api.Answer{Inode: 3, Kind: api.InodeFile}}, row{call(api.CallLookup, "/f"), no(api.ErrNoEnt)}, row{two(api.CallRename, "/moved", "/ld"), in(3)}, row{call(api.CallLookup, "/ld"), api.Answer{Inode: 3, Kind: api.InodeFile}}, row{call(api.CallStat, "/d"), api.Answer{Inode: 2, Kind: api.InodeDir, Links: 1}},
+		row{api.Call{Kind: api.CallWrite, Path: "/ld", Bytes: make([]byte, 65536)}, api.Answer{Size: 65536}},
 	)
 }
 
@@ -232,7 +244,7 @@ func TestOf(t *testing.T) {
 		return t
 	}
 	for i, things := range [][]api.Thing{
-		{dirOf(1, 1)}, {dirOf(1, 1, name("a", 2)), file}, {dirOf(1, 1, name("a", 2)), link}, {dirOf(1, 1, name("a", 2), name("b", 2)), thing(2, api.InodeFile, 2)},
+		{dirOf(1, 1)}, {dirOf(1, 1, name("a", 2), name("b", 2), name("c", 2), name("d", 2)), thing(2, api.InodeFile, 4)}, {dirOf(1, 1, name("a", 2)), with(link, func(t *api.Thing) { t.Target = strings.Repeat("x", 112) })}, {dirOf(1, 1, name("a", 2)), file}, {dirOf(1, 1, name("a", 2)), link}, {dirOf(1, 1, name("a", 2), name("b", 2)), thing(2, api.InodeFile, 2)},
 		{dirOf(1, 1, name("a", 7)), dirOf(7, 1)}, {dirOf(1, 1, api.Named{Key: key("a", 65535), Name: "a", Inode: 2}), file}, {dirOf(1, 1, name("a", 2)), with(file, func(t *api.Thing) { t.Bytes = make([]byte, 65536) })},
 	} {
 		m, e := model.Of(l, things...)
@@ -242,7 +254,7 @@ func TestOf(t *testing.T) {
 	}
 	root := dirOf(1, 1, name("a", 2))
 	for i, things := range [][]api.Thing{
-		nil, {file}, {dirOf(1, 2)}, {with(dirOf(1, 1), func(t *api.Thing) { t.Links = 2 })}, {with(dirOf(1, 1), func(t *api.Thing) { t.Bytes = []byte{1} })}, {with(dirOf(1, 1), func(t *api.Thing) { t.Target = "x" })},
+		nil, {dirOf(1, 1), thing(2, api.InodeFile, 0)}, {dirOf(1, 1), thing(2, api.InodeNone, 0)}, {file}, {dirOf(1, 2)}, {with(dirOf(1, 1), func(t *api.Thing) { t.Links = 2 })}, {with(dirOf(1, 1), func(t *api.Thing) { t.Bytes = []byte{1} })}, {with(dirOf(1, 1), func(t *api.Thing) { t.Target = "x" })},
 		{root}, {dirOf(1, 1), file}, {root, file, file}, {file, root}, {root, thing(2, api.InodeFile, 2)}, {root, thing(2, api.InodeFile, 0)}, {root, thing(2, 4, 1)}, {root, thing(2, api.InodeNone, 1)}, {root, {Inode: 2}}, {root, file, {Inode: 9}},
 		{root, with(file, func(t *api.Thing) { t.Bytes = make([]byte, 65537) })}, {root, with(file, func(t *api.Thing) { t.Parent = 1 })}, {root, with(file, func(t *api.Thing) { t.Target = "x" })}, {root, with(file, func(t *api.Thing) { t.Names = root.Names })},
 		{root, thing(2, api.InodeLink, 1)}, {root, with(link, func(t *api.Thing) { t.Target = "\x00" })}, {root, with(link, func(t *api.Thing) { t.Target = strings.Repeat("x", 113) })}, {root, with(link, func(t *api.Thing) { t.Bytes = []byte("x") })},
@@ -263,6 +275,66 @@ func TestOf(t *testing.T) {
 	}
 	if m, e := model.Of(bad, file); m != nil || e != api.ErrArg {
 		t.Error(e)
+	}
+}
+
+// P18.1: names of one sum.
+func TestOfKeys(t *testing.T) {
+	l := lay(t, 8, 8, 1)
+	zero, _ := record.Sum(l, "a")
+	other := ""
+	for i := 0; other == ""; i++ {
+		if s, _ := record.Sum(l, strconv.Itoa(i)); s == zero {
+			other = strconv.Itoa(i)
+		}
+	}
+	of := func(a, b int) api.Errno {
+		x, _ := record.Key(l, "a", a)
+		y, _ := record.Key(l, other, b)
+		_, e := model.Of(l, api.Thing{Inode: 1, Kind: api.InodeDir, Links: 1, Parent: 1, Names: []api.Named{{Key: x, Name: "a", Inode: 2}, {Key: y, Name: other, Inode: 2}}}, thing(2, api.InodeFile, 2))
+		return e
+	}
+	if of(0, 1) != api.OK || of(1, 0) != api.ErrState || of(3, 3) != api.ErrState || of(7, 65535) != api.OK {
+		t.Error(of(0, 1), of(1, 0), of(3, 3), of(7, 65535))
+	}
+}
+
+// P18.3: part by part; what is told, and what was handed in, is not the model's.
+func TestSamePartByPart(t *testing.T) {
+	l := lay(t, 8, 8, 8)
+	build := func(target, b string) *model.Model {
+		m, _ := model.New(l)
+		m.Do(two(api.CallSymlink, "/l", target))
+		m.Do(call(api.CallCreate, "/f"))
+		m.Do(api.Call{Kind: api.CallWrite, Path: "/f", Bytes: []byte(b)})
+		return m
+	}
+	m := build("x", "abc")
+	if !model.Same(m, build("x", "abc")) || model.Same(m, build("y", "abc")) || model.Same(m, build("x", "abd")) || model.Same(m, build("x", "ab")) {
+		t.Error("same")
+	}
+	dirs := func(dir string) *model.Model {
+		m, _ := model.New(l)
+		m.Do(call(api.CallMkdir, "/a"))
+		m.Do(call(api.CallMkdir, "/b"))
+		m.Do(call(api.CallMkdir, dir+"/c"))
+		return m
+	}
+	if model.Same(dirs("/a"), dirs("/b")) || !model.Same(dirs("/a"), dirs("/a")) {
+		t.Error("same")
+	}
+	things := m.State()
+	back, _ := model.Of(l, things...)
+	for _, x := range things {
+		for i := range x.Bytes {
+			x.Bytes[i] = 'z'
+		}
+		for i := range x.Names {
+			x.Names[i].Name = "z"
+		}
+	}
+	if !model.Same(m, back) || !model.Same(m, build("x", "abc")) {
+		t.Error("things are shared")
 	}
 }
 

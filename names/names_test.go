@@ -15,7 +15,7 @@ func wide(n int) string { return strings.Repeat("x", n) }
 func TestCheckPartsEach(t *testing.T) {
 	for name, want := range map[string]api.Errno{
 		"a": api.OK, "...": api.OK, "\xff": api.OK, wide(120): api.OK,
-		"": api.ErrName, ".": api.ErrName, "..": api.ErrName, "a/b": api.ErrName, "/": api.ErrName, "a\x00": api.ErrName,
+		"": api.ErrName, ".": api.ErrName, "..": api.ErrName, "a/b": api.ErrName, "/": api.ErrName, "a\x00": api.ErrName, "\x00": api.ErrName,
 		wide(121): api.ErrWide, wide(121) + "/": api.ErrName, wide(500) + "\x00": api.ErrName,
 	} {
 		if e := names.Check(name); e != want {
@@ -75,6 +75,9 @@ func TestJoinAndShort(t *testing.T) {
 		{many, strings.Repeat("/abcd", 200), api.OK},
 		{append(slices.Clone(many), "a"), "", api.ErrLong},
 		{append(slices.Clone(many), "a", "/"), "", api.ErrName},
+		{slices.Repeat([]string{"."}, 500), strings.Repeat("/.", 500), api.OK},
+		{slices.Repeat([]string{"."}, 501), "", api.ErrLong},
+		{slices.Repeat([]string{".."}, 334), "", api.ErrLong},
 	} {
 		if got, e := names.Join(row.parts...); got != row.want || e != row.e {
 			t.Error(row.parts, got, e)

@@ -178,6 +178,11 @@ func TestSplitAndChild(t *testing.T) {
 			t.Error(at, e)
 		}
 	}
+	for _, at := range []int{1, 2047} {
+		if _, l, e := node.Split(w, at); e != api.OK || l[0] != put(1, uint64(at)) {
+			t.Error(at, e)
+		}
+	}
 	if _, _, e := node.Split(words(t, leaf(5, pair(5, 1))), 40); e != api.ErrArg {
 		t.Error(e)
 	}

@@ -103,8 +103,10 @@ func TestApplyAndRun(t *testing.T) {
 			t.Error(many, got, e)
 		}
 	}
-	if _, e := plan.Apply(in, 1, put(-1, 9)); e != api.ErrRange {
-		t.Error(e)
+	for _, at := range []int{-1, 3, math.MaxInt} {
+		if _, e := plan.Apply(in, 1, put(at, 9)); e != api.ErrRange {
+			t.Error(at, e)
+		}
 	}
 	m, _ := pmem.New(16)
 	if plan.Run(nil, fence()) != api.ErrNil || plan.Run(&pmem.Memory{}) != api.ErrNil {

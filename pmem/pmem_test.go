@@ -169,6 +169,22 @@ func TestCopyAndSame(t *testing.T) {
 	if pmem.Same(m, d) {
 		t.Error("another content is queued")
 	}
+	lasts := m.Copy()
+	lasts.Store(9, 1)
+	stands := lasts.Copy()
+	stands.Evict(1)
+	if pmem.Same(m, lasts) || pmem.Same(lasts, stands) {
+		t.Error("what stands there, or what lasts, is not asked")
+	}
+	fenced, evicted := made(t, 16), made(t, 16)
+	fenced.Store(1, 5)
+	fenced.Flush(0)
+	fenced.Fence()
+	evicted.Store(1, 5)
+	evicted.Evict(0)
+	if !pmem.Same(fenced, evicted) {
+		t.Error("something is queued behind a fence")
+	}
 	if pmem.Same(m, nil) || pmem.Same(nil, m) || !pmem.Same(nil, nil) || pmem.Same(made(t, 8), made(t, 16)) {
 		t.Error("same")
 	}

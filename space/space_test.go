@@ -43,6 +43,11 @@ func TestFree(t *testing.T) {
 	if n, e := space.Record(x); n != 3 || e != api.OK {
 		t.Error(n, e)
 	}
+	none := small(t)
+	none.Records = nil
+	if n, e := space.Record(none); n != 1 || e != api.OK {
+		t.Error(n, e)
+	}
 	seq := space.Runs(x)
 	for range 2 {
 		if l := slices.Collect(seq); !slices.Equal(l, []api.Run{run(24, 2), run(28, 4)}) {
@@ -84,8 +89,11 @@ func TestNoImage(t *testing.T) {
 		x := small(t, 26)
 		change(&x)
 		_, a := space.Free(x)
-		_, b := space.Inode(x)
-		_, c := space.Record(x)
+		in, b := space.Inode(x)
+		rec, c := space.Record(x)
+		if in != 0 || rec != 0 {
+			t.Error(i, in, rec)
+		}
 		_, d := space.Pick(x, -1)
 		_, f := space.Map(x)
 		_, g := space.Stores(make([]uint64, 32*64), x)

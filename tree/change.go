@@ -145,7 +145,6 @@ func Put(words []uint64, at int, p api.Pair, free ...int) ([]api.Put, int, api.E
 	used := 0
 	e := guarded(func() {
 		u := begin(words, at, free)
-		refuse(api.ErrArg, p.Ptr < 1 || p.Ptr > maxPtr)
 		path := u.path(p.Key)
 		// A full leaf is asked, too, what else speaks against the pair.
 		_, e := node.Put(u.block(path[len(path)-1]), p)

@@ -113,6 +113,7 @@ func TestReading(t *testing.T) {
 		{apply(words, []api.Put{put(0, 9)}), 0, api.ErrTree}, {apply(words, []api.Put{put(0, 0)}), 0, api.ErrTree}, {apply(words, []api.Put{put(0, 1<<63)}), 0, api.ErrTree}, {apply(words, []api.Put{put(0, 2)}), 0, api.ErrTree},
 		{apply(words, []api.Put{put(64, 0)}), 0, api.ErrTree}, {apply(words, []api.Put{put(65, 1)}), 0, api.ErrTree}, {apply(words, []api.Put{put(66, 1)}), 0, api.ErrTree}, {apply(words, []api.Put{put(130, 0)}), 0, api.ErrTree},
 		{apply(words, []api.Put{put(129, 3)}), 0, api.ErrTree}, {apply(words, []api.Put{put(195, 3)}), 0, api.ErrTree}, {apply(words, []api.Put{put(192, api.NodeMark+2)}), 0, api.ErrTree}, {apply(words, []api.Put{put(136, 5), put(130, 6)}), 0, api.ErrTree},
+		{apply(words, []api.Put{put(64+8, 6)}), 0, api.ErrTree}, {device(t, 4, 3, map[int]api.Node{1: inner(1, 0, 0, 2), 2: leaf(0, 0), 3: inner(1, 0, 0, 1)}), 0, api.ErrTree},
 	} {
 		if e := tree.Check(c.words, c.at); e != c.e {
 			t.Error(i, e)
@@ -132,6 +133,23 @@ func TestReading(t *testing.T) {
 	}
 }
 
+// P12.1: what is just allowed.
+func TestBounds(t *testing.T) {
+	words := make([]uint64, 64*2048)
+	copy(words, device(t, 3, 1, map[int]api.Node{1: leaf(0, 0, pair(0, 1), pair(math.MaxUint64, 1<<40))}))
+	for _, n := range []int{3 * 64, 2048 * 64} {
+		if l, e := tree.All(words[:n], 0); e != api.OK || tree.Check(words[:n], 0) != api.OK || !slices.Equal(l, []api.Pair{pair(0, 1), pair(math.MaxUint64, 1<<40)}) {
+			t.Error(n, l, e)
+		}
+	}
+	if p, is, e := tree.Find(words, 0, 0); p != 1 || !is || e != api.OK {
+		t.Error(p, is, e)
+	}
+	if _, _, used, e := tree.Build([]api.Pair{pair(0, 1<<40)}, 1, 2047); used != 1 || e != api.OK {
+		t.Error(used, e)
+	}
+}
+
 // P12.1: trees that read, and are not settled.
 func TestHalfDone(t *testing.T) {
 	for i, c := range []struct {
@@ -143,6 +161,8 @@ func TestHalfDone(t *testing.T) {
 		{1, map[int]api.Node{1: leaf(0, 2, pair(1, 1), pair(9, 3)), 2: leaf(9, 0, pair(9, 3))}, api.OK, []api.Pair{pair(1, 1), pair(9, 3)}},
 		{3, map[int]api.Node{1: leaf(0, 2, pair(1, 1)), 2: leaf(9, 0, pair(9, 3)), 3: inner(1, 0, 0, 1)}, api.OK, []api.Pair{pair(1, 1), pair(9, 3)}},
 		{3, map[int]api.Node{1: leaf(0, 2, pair(1, 1)), 2: leaf(9, 0, pair(9, 3)), 3: inner(1, 0, 0, 1, pair(8, 2))}, api.OK, []api.Pair{pair(1, 1), pair(9, 3)}},
+		{3, map[int]api.Node{1: leaf(0, 2, pair(1, 1), pair(9, 2)), 2: leaf(9, 0, pair(9, 3)), 3: inner(1, 0, 0, 1, pair(9, 2))}, api.OK, []api.Pair{pair(1, 1), pair(9, 3)}},
+		{3, map[int]api.Node{1: leaf(0, 2, pair(9, 2)), 2: leaf(9, 0, pair(9, 3)), 3: inner(1, 0, 0, 1, pair(9, 2))}, api.OK, []api.Pair{pair(9, 3)}},
 		{3, map[int]api.Node{1: leaf(0, 2, pair(1, 1)), 2: leaf(9, 0, pair(9, 3)), 3: inner(1, 0, 0, 1, pair(9, 40))}, api.ErrTree, []api.Pair{pair(1, 1), pair(9, 3)}},
 	} {
 		words := device(t, 4, c.root, c.nodes)
@@ -164,6 +184,18 @@ func TestHalfDone(t *testing.T) {
 		if _, e := tree.Swap(words, 0, pair(1, 0)); e != api.ErrTree {
 			t.Error(i, e)
 		}
+	}
+}
+
+// P12.1: a leaf that is not settled, of a tree that reads.
+func TestUnsettledLeaf(t *testing.T) {
+	good := device(t, 4, 3, map[int]api.Node{1: leaf(0, 2, pair(1, 1)), 2: leaf(9, 0, pair(9, 3)), 3: inner(1, 0, 0, 1, pair(9, 2))})
+	if tree.Check(good, 0) != api.OK {
+		t.Fatal("the test's own words")
+	}
+	now := apply(good, []api.Put{put(64+11, 1)})
+	if l, e := tree.All(now, 0); e != api.OK || len(l) != 2 || tree.Check(now, 0) != api.ErrTree {
+		t.Error(l, e)
 	}
 }
 

@@ -27,7 +27,7 @@ func world() map[entry]api.Found {
 	return map[entry]api.Found{
 		{1, "a"}: dirOf(2), {2, "b"}: fileOf(3), {2, ".."}: {Inode: 1}, {1, ".."}: {Inode: 1, Kind: api.InodeFile},
 		{1, "l"}: linkOf(4, "a"), {1, "abs"}: linkOf(5, "/a/b"), {2, "up"}: linkOf(6, "../l/b"), {1, "loop"}: linkOf(7, "loop"), {1, "root"}: linkOf(8, "/"), {1, "bad"}: linkOf(9, "x\x00"),
-		{1, "wide"}: linkOf(10, strings.Repeat("x", 121)), {1, "odd"}: {Inode: 11, Kind: 9}, {2, "dots"}: linkOf(12, "."), {1, "lost"}: linkOf(13, "gone"), {1, "empty"}: linkOf(14, ""), {2, "rel"}: linkOf(15, "b"),
+		{1, "wide"}: linkOf(10, strings.Repeat("x", 121)), {1, "odd"}: {Inode: 11, Kind: 9}, {2, "dots"}: linkOf(12, "."), {1, "lost"}: linkOf(13, "gone"), {1, "empty"}: linkOf(14, ""), {2, "rel"}: linkOf(15, "b"), {2, "top"}: linkOf(16, "/l/b"), {2, "none"}: linkOf(17, "/b"),
 		{1, "c1"}: linkOf(21, "c2"), {1, "c2"}: linkOf(22, "c3"), {1, "c3"}: linkOf(23, "c4"), {1, "c4"}: linkOf(24, "c5"), {1, "c5"}: linkOf(25, "c6"), {1, "c6"}: linkOf(26, "c7"), {1, "c7"}: linkOf(27, "c8"), {1, "c8"}: linkOf(28, "a"), {1, "c0"}: linkOf(20, "c1"),
 	}
 }
@@ -52,7 +52,7 @@ func TestGo(t *testing.T) {
 	}{
 		{"/", false, in(1), api.OK}, {"/.", false, in(1), api.OK}, {"/..", false, in(1), api.OK}, {"/a", false, at(1, "a", dirOf(2)), api.OK}, {"/a/.", false, in(2), api.OK}, {"/a/..", false, in(1), api.OK},
 		{"//a//b", false, at(2, "b", fileOf(3)), api.OK}, {"/l", false, at(1, "l", linkOf(4, "")), api.OK}, {"/l", true, at(1, "a", dirOf(2)), api.OK}, {"/l/b", false, at(2, "b", fileOf(3)), api.OK}, {"/l/.", false, in(2), api.OK},
-		{"/abs", true, at(2, "b", fileOf(3)), api.OK}, {"/a/up", true, at(2, "b", fileOf(3)), api.OK}, {"/a/rel", true, at(2, "b", fileOf(3)), api.OK}, {"/a/dots", true, in(2), api.OK}, {"/root", true, in(1), api.OK}, {"/empty", true, in(1), api.OK},
+		{"/abs", true, at(2, "b", fileOf(3)), api.OK}, {"/a/up", true, at(2, "b", fileOf(3)), api.OK}, {"/a/rel", true, at(2, "b", fileOf(3)), api.OK}, {"/a/dots", true, in(2), api.OK}, {"/a/top", true, at(2, "b", fileOf(3)), api.OK}, {"/a/none", true, api.Walked{Errno: api.ErrNoEnt, Dir: 1, Name: "b"}, api.OK}, {"/root", true, in(1), api.OK}, {"/empty", true, in(1), api.OK},
 		{"/loop", true, no(api.ErrLoop), api.OK}, {"/loop/x", false, no(api.ErrLoop), api.OK}, {"/c1", true, at(1, "a", dirOf(2)), api.OK}, {"/c0", true, no(api.ErrLoop), api.OK},
 		{"/bad", true, no(api.ErrName), api.OK}, {"/bad", false, at(1, "bad", linkOf(9, "")), api.OK}, {"/wide/x", false, no(api.ErrWide), api.OK}, {"/odd", false, at(1, "odd", api.Found{Inode: 11, Kind: 9}), api.OK}, {"/odd/x", false, no(api.ErrNotDir), api.OK},
 		{"/a/c", false, api.Walked{Errno: api.ErrNoEnt, Dir: 2, Name: "c"}, api.OK}, {"/c/b", false, no(api.ErrNoEnt), api.OK}, {"/c/.", false, no(api.ErrNoEnt), api.OK}, {"/lost", true, api.Walked{Errno: api.ErrNoEnt, Dir: 1, Name: "gone"}, api.OK},
