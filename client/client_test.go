@@ -152,6 +152,12 @@ func TestLoseCopyNone(t *testing.T) {
 	c.Begin(api.Call{Kind: api.CallWrite, Path: "/f", Bytes: in})
 	in[0] = 'z'
 	c.Step(m, l)
+	was := m.Copy()
+	c.Begin(api.Call{Kind: api.CallCreate})
+	c.Step(m, l)
+	if v, _ := m.Load(0); !pmem.Same(was, m) || v != api.Super {
+		t.Error("something is stored ahead of its time")
+	}
 	if c.Lose() != api.OK || c.Phase() != api.PhaseIdle || len(c.Left()) > 0 || !l.Holds(3) {
 		t.Error("lose")
 	}
@@ -175,6 +181,24 @@ func TestLoseCopyNone(t *testing.T) {
 	b, _ := d.Answer()
 	if !model.SameAnswer(a, b) || !pmem.Same(m, other) || a.Size != 3 {
 		t.Error(a, b)
+	}
+	c.Begin(api.Call{Kind: api.CallReaddir, Path: "/", Many: 9})
+	for c.Phase() != api.PhaseIdle {
+		c.Step(m, l)
+	}
+	names, _ := c.Answer()
+	names.Names[0].Name = "changed"
+	if again, _ := c.Answer(); again.Names[0].Name != "f" {
+		t.Error("an answer is shared")
+	}
+	in = []byte("xyz")
+	c.Begin(api.Call{Kind: api.CallWrite, Path: "/f", Bytes: in})
+	in[0] = '-'
+	for c.Phase() != api.PhaseIdle {
+		c.Step(m, l)
+	}
+	if a, _ := client.Run(m, 0, api.Call{Kind: api.CallRead, Path: "/f", Many: 9}); string(a[0].Bytes) != "xyz" {
+		t.Error("a call's bytes are shared")
 	}
 	c.Lose()
 	if _, is := c.Answer(); is {

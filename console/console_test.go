@@ -112,6 +112,9 @@ func TestYard(t *testing.T) {
 	if !strings.HasPrefix(moments, "0 -1 -1 lost, 1 -1 -1 lost") || strings.Count(moments, "lost") != 7 {
 		t.Error(moments)
 	}
+	// At most 5000 steps of one line.
+	c = console.New()
+	play(t, c, [2]string{"make 36 8 16 4", "ok"}, [2]string{"begin 0 lookup /", "ok"}, [2]string{"pick 0 2", "2"}, [2]string{"begin 1 mkdir /a", "ok"}, [2]string{"pick 1 6000", "5000"}, [2]string{"pick 1 4999", "4999"})
 	// A reader waits behind a writer that waits.
 	c = console.New()
 	play(t, c, [2]string{"make 36 8 16 4", "ok"}, [2]string{"begin 0 lookup /", "ok"}, [2]string{"pick 0 2", "2"}, [2]string{"lookup /", "1 dir"}, [2]string{"mkdir /a", "error 283"}, [2]string{"begin 5 mkdir /a", "ok"}, [2]string{"pick 5 3", "3"}, [2]string{"lookup /", "error 283"}, [2]string{"pick 0 9", "1"}, [2]string{"pick 5 9999", "121"}, [2]string{"lookup /a", "2 dir"})

@@ -167,7 +167,7 @@ func TestWholeAndSpare(t *testing.T) {
 			t.Error(client, a)
 		}
 	}
-	for _, records := range []int{4, 20, 40, 400, 1024} {
+	for _, records := range []int{4, 20, 36, 40, 72, 400, 684, 688, 1024} {
 		l := lay(t, 2048, 4, records, 8)
 		s, _ := deed.Spare(device(t, l))
 		var pairs []api.Pair
@@ -283,7 +283,18 @@ func TestExtentsAndSpace(t *testing.T) {
 	if len(n.Map) != 8 {
 		t.Fatal(n.Map)
 	}
-	words = behind(t, words, write("/f", 2*4*512, "y"), write("/f", 2*5*512, "y"))
+	words = behind(t, words, write("/f", 2*4*512, "y"))
+	_, s := deed.Do(words, 0, write("/f", 2*5*512, "y"))
+	anew := 0
+	for _, p := range s {
+		if p.At/64 >= l.Data {
+			anew++
+		}
+	}
+	if anew != 24*64 {
+		t.Error(anew)
+	}
+	words = apply(words, s)
 	n, _ = inode.Of(words[at(l, 2) : at(l, 2)+16])
 	if len(n.Map) != 1 || n.Map[0].Many != 24 {
 		t.Error("the file is not laid anew", n.Map)
@@ -304,6 +315,69 @@ func TestExtentsAndSpace(t *testing.T) {
 	}
 	if a, _ := deed.Do(full, 0, call(api.CallCreate, "/d")); a.Errno != api.OK {
 		t.Error(a)
+	}
+}
+
+// P23.1: a file would have more than ten extents, however it lies.
+func TestTooManyExtents(t *testing.T) {
+	l := lay(t, 90, 64, 64, 40)
+	words := device(t, l)
+	n := 0
+	for ; ; n++ {
+		a, s := deed.Do(words, 0, call(api.CallCreate, "/"+strconv.Itoa(n)))
+		if a.Errno != api.OK {
+			break
+		}
+		now := apply(words, s)
+		a, s = deed.Do(now, 0, write("/"+strconv.Itoa(n), 0, "x"))
+		if a.Errno != api.OK {
+			break
+		}
+		words = apply(now, s)
+	}
+	for i := 0; i < n; i += 2 {
+		words = behind(t, words, call(api.CallUnlink, "/"+strconv.Itoa(i)))
+	}
+	words = behind(t, words, call(api.CallCreate, "/f"))
+	spare, _ := deed.Spare(words)
+	if len(spare) < 12 {
+		t.Fatal("the test's own words", len(spare))
+	}
+	for blocks, want := range map[int]api.Errno{10: api.OK, 11: api.ErrSpace} {
+		a, s := deed.Do(words, 0, write("/f", 0, string(bytes.Repeat([]byte("y"), 512*blocks))))
+		if a.Errno != want || (len(s) == 0) != (want != api.OK) {
+			t.Error(blocks, a)
+		}
+	}
+}
+
+// P23.1: links are named and moved themselves; ways go up.
+func TestLinksAndWays(t *testing.T) {
+	l := lay(t, 60, 16, 64, 8)
+	words := behind(t, device(t, l), call(api.CallCreate, "/f"), two(api.CallSymlink, "/l", "f"), two(api.CallLink, "/l", "/m"), call(api.CallMkdir, "/d"), call(api.CallCreate, "/d/../x"), two(api.CallRename, "/l", "/d/./n"), write("/m", 0, "abc"))
+	for i, c := range []struct {
+		c api.Call
+		a api.Answer
+	}{
+		{call(api.CallReadlink, "/m"), api.Answer{Text: "f"}}, {call(api.CallReadlink, "/d/n"), api.Answer{Text: "f"}}, {call(api.CallLookup, "/x"), api.Answer{Inode: 5, Kind: api.InodeFile}}, {call(api.CallStat, "/f"), api.Answer{Inode: 2, Kind: api.InodeFile, Links: 1, Size: 3}},
+	} {
+		if a, s := deed.Do(words, 0, c.c); !model.SameAnswer(a, c.a) || len(s) > 0 {
+			t.Error(i, a)
+		}
+	}
+}
+
+// P23.1: a directory is made in one whose leaf is full.
+func TestMkdirSplits(t *testing.T) {
+	l := lay(t, 100, 64, 64, 40)
+	words := device(t, l)
+	for i := range 27 {
+		words = behind(t, words, call(api.CallCreate, "/"+strconv.Itoa(i)))
+	}
+	words = check(t, l, words, 0, call(api.CallMkdir, "/d"), true)
+	words = check(t, l, words, 0, call(api.CallCreate, "/d/f"), true)
+	if b, _ := tree.Blocks(words, at(l, 1)+2); len(b) != 3 {
+		t.Error(b)
 	}
 }
 

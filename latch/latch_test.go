@@ -47,7 +47,7 @@ func TestTurns(t *testing.T) {
 			t.Error(client, e)
 		}
 	}
-	c := l.Copy()
+	c, d := l.Copy(), l.Copy()
 	seq := l.Waits()
 	if l.Free(1) != api.OK || !slices.Equal(l.Held(), []api.Turn{turn(2, true)}) {
 		t.Error(l.Held())
@@ -70,8 +70,11 @@ func TestTurns(t *testing.T) {
 		}
 		break
 	}
-	if latch.Same(l, c) || !c.Holds(1) {
+	if latch.Same(l, c) || !c.Holds(1) || !latch.Same(c, d) || !slices.Equal(c.Held(), []api.Turn{turn(1, false)}) || !slices.Equal(waits(c), []api.Turn{turn(2, true), turn(3, false)}) {
 		t.Error("a copy does not go on apart")
+	}
+	if c.Free(3) != api.OK || c.Ask(3, true) != api.OK || c.Ask(3, true) != api.ErrTwice || c.Free(1) != api.OK || c.Free(1) != api.ErrNone || c.Ask(1, true) != api.OK || !slices.Equal(waits(c), []api.Turn{turn(3, true), turn(1, true)}) || !slices.Equal(waits(d), []api.Turn{turn(2, true), turn(3, false)}) {
+		t.Error(c.Held(), waits(c), waits(d))
 	}
 	if l.Free(2) != api.OK || !slices.Equal(l.Held(), []api.Turn{turn(3, false)}) {
 		t.Error(l.Held())

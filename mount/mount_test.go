@@ -103,6 +103,7 @@ func TestRight(t *testing.T) {
 		{[]api.Put{{At: in(3), Value: 1 | 9<<8}}, []api.Put{{At: in(3), Value: 1 | 2<<8}}},
 		{[]api.Put{{At: in(2) + 3, Value: 7}, {At: in(2), Value: 2}, {At: in(1) + 3, Value: 2}}, []api.Put{{At: in(1) + 3, Value: 1}, {At: in(2), Value: 258}, {At: in(2) + 3, Value: 1}}},
 		{[]api.Put{{At: rec(9), Value: 5}, {At: rec(16), Value: 1 << 60}}, []api.Put{{At: rec(9)}, {At: rec(16)}}},
+		{[]api.Put{{At: rec(4), Value: 5}, {At: rec(5) + 1, Value: 5}}, []api.Put{{At: rec(4)}}},
 		{[]api.Put{{At: l.Map * 64}, {At: l.Map*64 + 63, Value: 4}}, []api.Put{{At: l.Map * 64, Value: w[l.Map*64]}, {At: l.Map*64 + 63}}},
 		{[]api.Put{{At: 64 * 30, Value: 4}, {At: 66, Value: 9}}, nil},
 		{[]api.Put{{At: in(8), Value: 5}, {At: rec(9), Value: 5}, {At: l.Map * 64}, {At: in(4), Value: 9}}, []api.Put{{At: in(4)}, {At: in(8)}, {At: rec(9)}, {At: l.Map * 64, Value: w[l.Map*64]}}},
@@ -131,6 +132,10 @@ func TestRight(t *testing.T) {
 		if n != len(got) {
 			t.Error(i, n)
 		}
+	}
+	fresh := made(t, form(60, 8, 16, 8))
+	if got, e := mount.Right(apply(fresh, api.Put{At: rec(1), Value: 7})); e != api.OK || !slices.Equal(got, []api.Put{{At: rec(1)}}) {
+		t.Error(got, e)
 	}
 	for range mount.Each(apply(w, api.Put{At: in(5), Value: 257}, api.Put{At: in(6), Value: 257})) {
 		break

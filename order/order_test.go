@@ -176,6 +176,15 @@ func TestReadsFindEach(t *testing.T) {
 	if all := collect([]api.Moment{plain(0, -1)}); len(all) != 1 || len(all[0]) != 0 {
 		t.Error(all)
 	}
+	eight := 0
+	for list := range order.Each([]api.Moment{plain(0, 9), plain(1, 9), plain(2, 9), plain(3, 9), plain(4, -1), plain(5, -1), plain(6, -1), plain(7, -1)}) {
+		if eight++; len(list) != 4 {
+			t.Error(list)
+		}
+	}
+	if eight != 24 {
+		t.Error(eight)
+	}
 	if all := collect(nil); len(all) != 1 {
 		t.Error(all)
 	}

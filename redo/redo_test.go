@@ -11,6 +11,7 @@ import (
 	"hedgerow/inode"
 	"hedgerow/layout"
 	"hedgerow/model"
+	"hedgerow/node"
 	"hedgerow/record"
 	"hedgerow/redo"
 	"hedgerow/tree"
@@ -38,7 +39,7 @@ func device(t *testing.T, many int) ([]uint64, api.Layout) {
 }
 
 func apply(words []uint64, l []api.Put) []uint64 {
-	out := slices.Clone(words)
+	out := slices.Clip(slices.Clone(words))
 	for _, p := range l {
 		out[p.At] = p.Value
 	}
@@ -76,6 +77,15 @@ func TestLeaf(t *testing.T) {
 				t.Error(p, b)
 			}
 		}
+	}
+	// The place may be the first word; a root is never the block 0.
+	leaf, _ := node.Make(api.Node{Left: api.NodeLeaf})
+	few := append([]uint64{1}, make([]uint64, 63)...)
+	if b, e := redo.Leaf(append(few, leaf...), 0, 7); b != 1 || e != api.OK {
+		t.Error(b, e)
+	}
+	if b, e := redo.Leaf(append(slices.Clone(leaf), make([]uint64, 64)...), 64, 7); b != 0 || e != api.ErrRedo {
+		t.Error(b, e)
 	}
 	at := place(l, 1)
 	root := int(words[at])

@@ -172,6 +172,9 @@ func TestPlay(t *testing.T) {
 	for range 60 {
 		l = append(l, pick(0))
 	}
+	if first, e := script.Play(form(), [2]uint64{1, 2}, l[:4]...); e != api.OK || first.Refused != 2 {
+		t.Error(first, e)
+	}
 	x, e := script.Play(form(), [2]uint64{1, 2}, l...)
 	if e != api.OK || !x.Up || x.Refused < 3 || len(x.Moments) != 1 || x.Moments[0].Ended < 0 || len(x.Things) != 2 {
 		t.Error(x, e)

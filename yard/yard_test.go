@@ -12,6 +12,7 @@ import (
 	"hedgerow/image"
 	"hedgerow/model"
 	"hedgerow/mount"
+	"hedgerow/plan"
 	"hedgerow/pmem"
 	"hedgerow/yard"
 )
@@ -149,6 +150,51 @@ func TestMountStepwise(t *testing.T) {
 	other.Do(mounts(1000))
 	if !pmem.Same(other.Memory(), y.Memory()) || !other.Up() {
 		t.Error("at once is not step by step")
+	}
+}
+
+// P27.1: what is put right is planned at the first mount behind a crash, once; what ended is not lost.
+func TestPlannedOnce(t *testing.T) {
+	y := made(t)
+	play(t, y, row{crash(), 0, api.OK}, row{mounts(1), 0, api.OK})
+	run := func(c api.Call, steps int) {
+		y.Do(begin(0, c))
+		for range steps {
+			y.Do(pick(0))
+		}
+	}
+	run(mkdir("/a"), 200)
+	run(mkdir("/b"), 200)
+	play(t, y, row{crash(), 0, api.OK})
+	if h := y.History(); len(h) != 2 || h[0].Lost || h[1].Lost || h[0].Ended < 0 || y.Up() {
+		t.Error(h)
+	}
+	play(t, y, row{mounts(1), 0, api.OK})
+	// The redo is in the journal, and nothing of it is done.
+	rename := api.Call{Kind: api.CallRename, Path: "/a", To: "/b/c"}
+	steps := 0
+	for c := y.Copy(); ; steps++ {
+		c.Do(begin(0, rename))
+		if _, has := c.Memory().Load(64); has != api.OK {
+			t.Fatal(has)
+		}
+		if v, _ := c.Memory().Load(64); v != 0 {
+			break
+		}
+		c.Do(pick(0))
+	}
+	run(rename, steps)
+	y.Do(crash(2, 2, 2, 2, 2, 2, 2, 2))
+	right, _ := mount.Right(y.Memory().Image())
+	acts, _ := plan.Order(right...)
+	for n := range acts {
+		play(t, y, row{mounts(1), 0, api.OK})
+		if y.Left() != len(acts)-1-n || y.Up() != (n == len(acts)-1) {
+			t.Fatal(n, y.Left(), len(acts))
+		}
+	}
+	if !y.History()[2].Lost || mount.Neat(y.Memory().Image()) != api.OK || len(acts) < 20 {
+		t.Error(y.History(), len(acts))
 	}
 }
 
