@@ -316,15 +316,18 @@ func TestTakeBuildsAnew(t *testing.T) {
 		t.Error(got)
 	}
 	words = built(t, 20, run(19))
-	for i := range 8 {
+	for i := range 19 {
 		l, used, old, e := tree.Take(words, 0, uint64(10*i+10))
 		if e != api.OK || used != 0 || len(old) > 0 {
 			t.Error("without free blocks", used, old, e)
 		}
 		words = apply(words, l)
+		if b, _ := tree.Blocks(words, 0); len(b) != 3 || tree.Check(words, 0) != api.OK {
+			t.Error(i, b)
+		}
 	}
-	if b, _ := tree.Blocks(words, 0); len(b) != 3 || tree.Check(words, 0) != api.OK {
-		t.Error(b)
+	if l, e := tree.All(words, 0); len(l) != 0 || e != api.OK {
+		t.Error(l, e)
 	}
 }
 

@@ -222,6 +222,16 @@ func TestCopyAndMemory(t *testing.T) {
 	if string(y.History()[1].Call.Bytes) != "abc" {
 		t.Error("a call is shared")
 	}
+	c.Do(begin(0, api.Call{Kind: api.CallReaddir, Path: "/", Many: 9}))
+	for range 3 {
+		c.Do(pick(0))
+	}
+	h = c.History()
+	d := c.Copy()
+	h[1].Answer.Names[0].Name = "changed"
+	if c.History()[1].Answer.Names[0].Name != "f" || d.History()[1].Answer.Names[0].Name != "f" {
+		t.Error("an answer is shared")
+	}
 }
 
 func someHap(r *rand.Rand, crashes bool) api.Hap {
